@@ -1,0 +1,1 @@
+"""Leapfolk: persons who leap over one another, and what never changes."""
