@@ -1,22 +1,41 @@
 """Promises 1 and 2: rules for all functions; the examples of the document; the names of the interface."""
 
+import copy
 import enum
 import inspect
 import unittest
 from collections import namedtuple
 
-from leapfolk import errors, rows, yards
-from leapfolk.errors import NoLeap
+from leapfolk import colours, errors, homes, makers as makers_file, readings, rows, spans, turns, verdicts, yards
+from leapfolk.colours import colour_points, same_colour
+from leapfolk.errors import NoLeap, NoPerson
+from leapfolk.homes import home
+from leapfolk.makers import makers
+from leapfolk.readings import reading_wrong, reads
 from leapfolk.rows import back, done, is_steady, leaps_in, row_wrong
+from leapfolk.spans import floor, kept_span, lies_in, reduced, settled, span
+from leapfolk.turns import kept, turn_between
+from leapfolk.verdicts import shows, verdict
 from leapfolk.yards import leapt, standing_wrong, yard_wrong
 from tests.samples import BIG, JUNK, LINE, YARDS, Unchanged, generic, is_plain, refusal, refusal_class, walkers_over
 
 AROUND = ((0, 1), (1, 0))
+WIDE = ((0, 6), 4, (1, 3))
+AT = ((4, 1), (0, 0), (7, 5), (-3, 2))
+SEVEN = ((7,), 2, ())
 
 INTERFACE = {
     yards: {"yard_wrong": ["thing"], "standing_wrong": ["yard", "thing"], "leapt": ["yard", "standing", "leap"]},
     rows: {"is_steady": ["persons", "leaps"], "row_wrong": ["yard", "thing"], "done": ["yard", "standing", "row"],
            "back": ["row"], "leaps_in": ["row"]},
+    spans: {"reduced": ["width", "vectors"], "lies_in": ["rows", "vector"], "settled": ["rows", "vector"],
+            "span": ["yard", "standing"], "floor": ["yard", "standing"], "kept_span": ["yard", "standing"]},
+    makers_file: {"makers": ["yard", "standing"]},
+    colours: {"colour_points": ["yard", "standing"], "same_colour": ["yard", "standing", "i", "j"]},
+    readings: {"reading_wrong": ["yard", "thing"], "reads": ["yard", "reading", "vector"]},
+    turns: {"turn_between": ["yard", "one", "other"], "kept": ["yard", "standing"]},
+    homes: {"home": ["yard", "standing"]},
+    verdicts: {"verdict": ["yard", "one", "other"], "shows": ["yard", "one", "other", "told"]},
 }
 
 # One ordinary question for each function, with the arguments in their order.
@@ -29,6 +48,23 @@ QUESTIONS = [
     (done, [LINE, ((0,), (1,)), [(AROUND, 5), (((0, 1),), 1)]]), (done, [LINE, ((0,), (1,)), []]),
     (back, [[(AROUND, 5), (((0, 1), (2, 3)), 1)]]), (back, [[]]),
     (leaps_in, [[(AROUND, 5), (((0, 1), (2, 3)), 1)]]),
+    (reduced, [2, [(2, 1), (0, 3), (4, 5)]]), (reduced, [3, []]), (reduced, [1, [(BIG,), (6,)]]),
+    (lies_in, [[(2, 1), (0, 3)], (4, 5)]), (lies_in, [[], (0, 0)]),
+    (settled, [[(2, 1), (0, 3)], (4, 4)]), (settled, [[], (1, -7, 2)]),
+    (span, [WIDE, AT]), (floor, [WIDE, AT]), (kept_span, [WIDE, AT]), (floor, [LINE, ((0,), (1,))]),
+    (makers, [WIDE, AT]), (makers, [LINE, ((0,), (0,))]),
+    (colour_points, [WIDE, AT]), (same_colour, [WIDE, AT, 0, 2]),
+    (reading_wrong, [WIDE, ((1, 3), (5, 6))]), (reading_wrong, [WIDE, ((1, 3), (1, 5))]),
+    (reads, [WIDE, ((1, 3), (5, 6)), (7, -1)]),
+    (turn_between, [SEVEN, ((0,), (1,)), ((0,), (2,))]), (turn_between, [LINE, ((0,), (1,)), ((0,), (1,))]),
+    (kept, [WIDE, AT]), (kept, [SEVEN, ((0,), (1,))]),
+    (home, [WIDE, AT]), (home, [SEVEN, ((5,), (1,))]), (home, [((0, 0), 4, ()), ((0, 1), (BIG, 5), (3, 8), (9, -BIG))]),
+    (verdict, [SEVEN, ((0,), (1,)), ((0,), (2,))]), (verdict, [SEVEN, ((0,), (1,)), ((2,), (3,))]),
+    (verdict, [WIDE, AT, AT]), (verdict, [LINE, ((0,), (1,)), ((0,), (3,))]),
+    (verdict, [((0,), 3, (0, 2)), ((0,), (1,), (3,)), ((0,), (601,), (3,))]),
+    (shows, [LINE, ((0,), (1,)), ((10,), (11,)), ("led", [(AROUND, 5)])]),
+    (shows, [SEVEN, ((0,), (1,)), ((0,), (2,)), ("barred", ("turn", 7, (((1, 7),),)))]),
+    (shows, [LINE, ((0,), (1,)), ((0,), (3,)), ("barred", ("span", ((1, 3),)))]),
 ]
 
 
@@ -40,6 +76,22 @@ class Small(enum.IntEnum):
 
 
 Pair = namedtuple("Pair", "first second")
+
+
+class Six(enum.IntEnum):
+    """More of these."""
+    THREE = 3
+    FOUR = 4
+    SIX = 6
+
+
+def lists_in(thing):
+    """Return the lists in thing, with thing itself."""
+    found = [thing] if isinstance(thing, list) else []
+    if isinstance(thing, (list, tuple)):
+        for item in thing:
+            found += lists_in(item)
+    return found
 
 
 class Examples(unittest.TestCase):
@@ -54,6 +106,32 @@ class Examples(unittest.TestCase):
         self.assertEqual(leapt(((5,), 2, ()), ((1,), (4,)), (0, 1)), ((2,), (4,)))
         self.assertIs(refusal_class(leapt, ((0,), 2, (0,)), ((1,), (4,)), (0, 1)), NoLeap)
         self.assertEqual(yard_wrong(((1,), 7, ())), ('ways',))
+
+    def test_makers(self):
+        self.assertEqual(makers(((2, 4), 3, ()), ((0, 0), (1, 1), (0, 2))), [4])
+        self.assertEqual(makers(((4, 6), 3, ()), ((0, 0), (1, 0), (0, 1))), [2, 12])
+        self.assertEqual(makers(((0,), 3, (0, 2)), ((0,), (1,), (3,))), [6])
+
+    def test_spans(self):
+        self.assertEqual(reduced(2, [(2, 1), (0, 3), (4, 5)]), [(2, 1), (0, 3)])
+
+    def test_colours(self):
+        self.assertEqual(colour_points(((0,), 3, ()), ((0,), (3,), (6,))), ((0,), (3,), (0,)))
+        error = refusal(same_colour, ((0,), 3, ()), ((0,), (3,), (6,)), 0, 3)
+        self.assertIs(type(error), NoPerson)
+        self.assertEqual(error.person, 3)
+
+    def test_turns(self):
+        self.assertEqual(turn_between(((7,), 2, ()), ((0,), (1,)), ((0,), (2,))), (7, 2))
+        self.assertEqual(turn_between(((7,), 2, ()), ((0,), (2,)), ((0,), (1,))), (7, 3))
+
+    def test_verdicts(self):
+        self.assertIs(shows(((0,), 3, ()), ((0,), (3,), (0,)), ((0,), (1,), (0,)),
+                            ('barred', ('colour', 1, ((1, 6),)))), True)
+        self.assertIs(shows(((0,), 3, ()), ((0,), (1,), (0,)), ((0,), (3,), (0,)), ('barred', ('span', ((1, 3),)))),
+                      True)
+        self.assertEqual(verdict(((5,), 2, ()), ((0,), (1,)), ((0,), (2,)))[0], 'barred')
+        self.assertEqual(verdict(((5,), 3, ()), ((0,), (1,), (0,)), ((0,), (2,), (0,)))[0], 'led')
 
 
 class Interface(unittest.TestCase):
@@ -138,6 +216,39 @@ class Results(unittest.TestCase):
         self.assertIsNot(back(empty), empty)
         back(empty).append(1)
         self.assertEqual(back(empty), [])
+
+    def test_changes_of_returned_lists_change_no_later_answer(self):
+        for function, arguments in QUESTIONS:
+            first = function(*arguments)
+            kept_answer = copy.deepcopy(first)
+            for found in lists_in(first):
+                found.append("mine")
+                found.reverse()
+                found[0] = None
+            self.assertEqual(function(*arguments), kept_answer)
+
+    def test_returned_lists_are_no_arguments(self):
+        for function, arguments in QUESTIONS:
+            given = [id(found) for found in lists_in(arguments)]
+            self.assertFalse([found for found in lists_in(function(*arguments)) if id(found) in given])
+
+    def test_derived_kinds_are_never_returned_by_later_stages(self):
+        yard = (Pair(Small.NONE, Six.SIX), Six.FOUR, Pair(Small.ONE, Six.THREE))
+        at = tuple(Pair(Small.ONE, Small(k)) for k in (1, 0, 5, 1))
+        other = at[:2] + (Pair(Small.FIVE, Small.ONE),) + at[3:]
+        for function in (span, floor, kept_span, makers, colour_points, home, kept):
+            self.assertTrue(is_plain(function(yard, at)), function)
+            self.assertEqual(function(yard, at), function(((0, 6), 4, (1, 3)), ((1, 1), (1, 0), (1, 5), (1, 1))))
+        self.assertTrue(is_plain(verdict(yard, at, other)))
+        self.assertTrue(is_plain(verdict(yard, at, at)))
+        self.assertTrue(is_plain(verdict(yard, at, home(yard, at)[0])))
+        self.assertTrue(is_plain(verdict(yard, at, (at[0], at[2], at[2], at[3]))))
+        one = (Pair(Small.ONE, Small.ONE),)
+        self.assertTrue(is_plain(reduced(Small.ONE, [(Small.FIVE,)])))
+        self.assertTrue(is_plain(settled([(Small.FIVE,)], (Small.ONE,))))
+        self.assertTrue(is_plain(settled([], Pair(Small.FIVE, Small.ONE))))
+        self.assertTrue(is_plain(reads(LINE, one, (Small.FIVE,))))
+        self.assertTrue(is_plain(turn_between((Pair(Six.THREE, Six.THREE)[:1], 2, ()), ((0,), (1,)), ((0,), (2,)))))
 
     def test_later_changes_of_an_argument_change_no_result(self):
         row = [(AROUND, 5), (((0, 1),), 1)]
