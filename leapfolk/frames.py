@@ -1,13 +1,13 @@
-"""The frame of a kept span over its floor: the makers, with a vector and a way of counting for each.
+"""The frame of a kept span over its floor: the makers, with a way of counting for each.
 
-A vector of the kept span is, up to the floor, the sum of the frame's vectors, each as many times as it is counted.
-What is counted for a maker matters modulo the maker only, and exactly if the maker is 0. The frame is computed from
-reduced rows alone, so that all standings with the same kept span and floor have the same frame.
+A vector of the kept span is known, up to the floor, by what is counted for the makers: for each maker a number modulo
+the maker, or an exact one if the maker is 0. The frame is computed from reduced rows alone, so that all standings with
+the same kept span and floor have the same frame.
 """
 
 from leapfolk.arithmetic import is_all_zero, less_times, within
 from leapfolk.grounds import floor_rows, kept_rows
-from leapfolk.lattices import multiples, settle
+from leapfolk.lattices import multiples
 
 
 def swapped(items, one, other):
@@ -22,18 +22,15 @@ def least_place(numbers, start):
     return min([(abs(number), place) for place, number in enumerate(numbers) if place >= start and number != 0])[1]
 
 
-def row_cleared(columns, vectors, corner):
-    """Return columns and vectors after steps of columns that leave nothing in the corner's row behind the corner."""
+def row_cleared(columns, corner):
+    """Return the columns after steps of columns that leave nothing in the corner's row behind the corner."""
     while True:
-        least = least_place([entries[corner] for entries in columns], corner)
-        columns, vectors = swapped(columns, corner, least), swapped(vectors, corner, least)
+        columns = swapped(columns, corner, least_place([entries[corner] for entries in columns], corner))
         for number in range(corner + 1, len(columns)):
             times = columns[number][corner] // columns[corner][corner]
             columns[number] = less_times(columns[number], times, columns[corner])
-            # The vectors change the other way around, so that each sum of multiples stays what it is.
-            vectors[corner] = less_times(vectors[corner], -times, vectors[number])
         if is_row_clear(columns, corner):
-            return columns, vectors
+            return columns
 
 
 def is_row_clear(columns, corner):
@@ -66,37 +63,33 @@ def row_not_divided(columns, corner, end):
     return None
 
 
-def diagonal(columns, vectors, end):
-    """Return columns and vectors after the columns' first entries are brought to a diagonal.
-
-    Each number of the diagonal divides the next one.
-    """
+def diagonal(columns, end):
+    """Return the columns after so many first rows are brought to a diagonal, where each number divides the next."""
     corner = 0
     while corner < end:
         # Steps of columns and of rows are not mixed: one after the other they keep the numbers short.
-        columns, vectors = row_cleared(columns, vectors, corner)
-        columns = column_cleared(columns, corner, end)
+        columns = column_cleared(row_cleared(columns, corner), corner, end)
         if is_row_clear(columns, corner):
             row = row_not_divided(columns, corner, end)
             if row is None:
                 corner += 1
             else:
                 columns = rows_summed(columns, corner, 1, row)
-    return columns, vectors
+    return columns
 
 
 class Frame:
-    """The makers of a kept span over its floor, with a vector and a way of counting for each."""
+    """The makers of a kept span over its floor, with a way of counting for each."""
 
     def __init__(self, kept, floor):
         size = len(kept)
         end = len(floor)
         inner = [multiples(kept, row) for row in floor]
-        columns = [
+        # Below what the floor has of each row of the kept span stands how the columns were made of one another.
+        columns = diagonal([
             [row[number] for row in inner] + [1 if place == number else 0 for place in range(size)]
             for number in range(size)
-        ]
-        columns, vectors = diagonal(columns, kept, end)
+        ], end)
         makers = [abs(columns[number][number]) if number < end else 0 for number in range(size)]
         # A maker that is 1 counts nothing.
         needed = [number for number in range(size) if makers[number] != 1]
@@ -105,10 +98,9 @@ class Frame:
         self.columns = [
             [within(times, makers[number]) for times in columns[number][end:]] for number in needed
         ]
-        self.vectors = [settle(floor, vectors[number]) for number in needed]
 
     def counted(self, vector):
-        """Return how many times each vector of the frame is in a vector of the kept span."""
+        """Return what is counted for each maker in a vector of the kept span."""
         times = multiples(self.kept, vector)
         return [
             within(sum([many * each for many, each in zip(times, column)]), maker)

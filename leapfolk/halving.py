@@ -47,16 +47,14 @@ def halved(numbers, j, steps):
     steps.append(("pair", i, j, -times))
 
 
-def finished(numbers, j, steps):
-    """Bring all numbers to 0 or 1, where number j is 1 or -1."""
-    if numbers[j] < 0:
-        numbers[j] = 1
-        steps.append(("turn", j, j, 1))
-    for i in range(len(numbers)):
-        times = numbers[i] // 2
+def last_steps(numbers, j):
+    """Return the steps that bring all numbers to 0 or 1, where number j is 1 or -1."""
+    steps = [("turn", j, j, 1)] if numbers[j] < 0 else []
+    for i, number in enumerate(numbers):
+        times = number // 2
         if i != j and times != 0:
-            numbers[i] -= 2 * times
             steps.append(("add", i, j, -times))
+    return steps
 
 
 def steps_to_parities(numbers, period):
@@ -70,8 +68,7 @@ def steps_to_parities(numbers, period):
     while True:
         j = least_position(left)
         if abs(left[j]) == 1:
-            finished(left, j, steps)
-            return steps
+            return steps + last_steps(left, j)
         if not any([number % left[j] for number in left]):
             # Only the period keeps these numbers from having a common divisor.
             other = 0 if j != 0 else 1

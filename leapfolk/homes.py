@@ -2,41 +2,27 @@
 
 from leapfolk.arithmetic import centred, inverse_within, less_times, vector_between, within
 from leapfolk.frames import frame_of
-from leapfolk.grounds import (
-    base_of, colour_rows, floor_rows, floor_vectors, mover_vectors, movers_of, other_posts_of,
-)
+from leapfolk.grounds import base_of, colour_rows, floor_vectors, mover_vectors, movers_of, other_posts_of
 from leapfolk.lattices import reduced_rows, settle
 from leapfolk.lines import Lines, leaps_moving, run_of
 from leapfolk.moves import plain_points, points_after_row
 from leapfolk.yards import need_standing
 
 
-def wanted_vectors(yard, points, frame, lines):
-    """Return the movers' differences from the base in the home: what their lines stand for, settled by the floor."""
-    floor = floor_rows(yard, points)
-    wanted = []
-    for line in range(len(lines.movers)):
-        vector = [0] * len(yard[0])
-        for times, made in zip(lines.whole(line), frame.vectors):
-            vector = less_times(vector, -times, made)
-        wanted.append(settle(floor, vector))
-    return wanted
-
-
-def row_over_posts(yard, points, wanted):
-    """Return a row that moves each mover by a vector of the floor to the wanted difference from the base."""
+def row_over_posts(yard, points):
+    """Return a row that moves each mover until its difference from the base is settled by the floor."""
     width, base, posts = len(yard[0]), base_of(yard), other_posts_of(yard)
     # Each vector is followed by a number per post, so that the rows carry how they are made of the posts' vectors.
     made = [
-        vector + [1 if place == number else 0 for place in range(len(posts))]
-        for number, vector in enumerate(floor_vectors(yard, points))
+        generator + [1 if place == number else 0 for place in range(len(posts))]
+        for number, generator in enumerate(floor_vectors(yard, points))
     ]
     rows = reduced_rows(width, made)
     row = []
-    for mover, now, then in zip(movers_of(yard), mover_vectors(yard, points), wanted):
-        left = settle(rows, vector_between(now, then) + [0] * len(posts))
-        for post, times in zip(posts, left[width:]):
-            row += run_of(leaps_moving([mover], [(post, 1)], base), -times)
+    for mover, vector in zip(movers_of(yard), mover_vectors(yard, points)):
+        added = settle(rows, vector + [0] * len(posts))[width:]
+        for post, times in zip(posts, added):
+            row += run_of(leaps_moving([mover], [(post, 1)], base), times)
     return row
 
 
@@ -48,7 +34,7 @@ def half_within(number, modulus):
 
 
 def left_over(frame, counted, times, pivot):
-    """Return what is left of counted multiples of the frame's vectors after so many times a pivot is taken away."""
+    """Return what is left of what was counted for the makers after so many times a pivot is taken away."""
     return [within(number, maker) for number, maker in zip(less_times(counted, times, pivot), frame.makers)]
 
 
@@ -77,11 +63,8 @@ def home_of(yard, points):
     lines = Lines(base_of(yard), movers_of(yard), frame.makers, numbers)
     lines.bring_all()
     reached = points_after_row(ways, points, lines.runs)
-    if posts:
-        wanted = wanted_vectors(yard, points, frame, lines)
-        last = row_over_posts(yard, reached, wanted)
-    else:
-        last = row_of_all(yard, reached, frame, lines)
+    # What the lines stand for is the same for the whole class, and so are the points after this last part.
+    last = row_over_posts(yard, reached) if posts else row_of_all(yard, reached, frame, lines)
     return points_after_row(ways, reached, last), lines.runs + last
 
 

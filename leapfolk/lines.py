@@ -160,10 +160,3 @@ class Lines:
         """Bring all columns down, from the last to the first."""
         for column in range(len(self.makers) - 1, -1, -1):
             self.bring_column(column)
-
-    def whole(self, line):
-        """Return the numbers of a line with the pivots that it holds."""
-        numbers = self.numbers[line]
-        for pivot in self.held[line]:
-            numbers = less_times(numbers, -1, self.numbers[pivot])
-        return numbers

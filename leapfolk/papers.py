@@ -89,7 +89,7 @@ def turn_readings(frame):
     found = []
     for column in frame.columns:
         values = [part_of(times, count) for times in column]
-        found.append(completed([(0, 1)] * len(frame.vectors[0]), frame.kept, values))
+        found.append(completed([(0, 1)] * len(frame.kept[0]), frame.kept, values))
     return tuple(found)
 
 
