@@ -1,6 +1,7 @@
 """What can be checked at a glance of the rules for the package's files (L1, L2, L10, L14, L16, L17)."""
 
 import ast
+import builtins
 import pathlib
 import re
 import unittest
@@ -59,6 +60,21 @@ class Form(unittest.TestCase):
             for node in ast.walk(ast.parse(path.read_text())):
                 words = [getattr(node, field, None) for field in ("id", "attr", "arg", "name")]
                 self.assertFalse([word for word in words if word in BARRED], path.name)
+
+    def test_names_are_not_given_another_meaning(self):
+        for path in FILES:
+            tree = ast.parse(path.read_text())
+            taken = set(dir(builtins))
+            for node in tree.body:
+                if isinstance(node, ast.ImportFrom):
+                    taken |= {name.name for name in node.names}
+                elif isinstance(node, ast.ClassDef):
+                    taken.add(node.name)
+            for node in ast.walk(tree):
+                if isinstance(node, ast.Name) and isinstance(node.ctx, ast.Store):
+                    self.assertNotIn(node.id, taken, (path.name, node.lineno))
+                if isinstance(node, ast.arg):
+                    self.assertNotIn(node.arg, taken, (path.name, node.lineno))
 
     def test_no_floats_and_no_division(self):
         for path in FILES:
