@@ -1,4 +1,7 @@
-"""Integer arithmetic on numbers, vectors and square tables."""
+"""Integer arithmetic on numbers, vectors and tables."""
+
+from itertools import combinations
+from math import gcd
 
 
 def less_times(vector, times, other):
@@ -59,6 +62,34 @@ def determinant(rows):
             # The signs of the minors alternate.
             total += number * minor if place % 2 == 0 else -number * minor
     return total
+
+
+def minors_divisor(rows, columns, count):
+    """Return the greatest common divisor of count and all determinants of as many columns as there are rows."""
+    found = count
+    for places in combinations(range(columns), len(rows)):
+        found = gcd(found, determinant([[row[place] for place in places] for row in rows]))
+    return found
+
+
+def sum_of_times(vectors, times, width):
+    """Return the sum of the vectors, each so many times, as a list of that width."""
+    total = [0] * width
+    for vector, many in zip(vectors, times):
+        total = less_times(total, -many, vector)
+    return total
+
+
+def coprime_like(number, modulus, larger):
+    """Return what is number modulo the modulus and has no divisor in common with a larger multiple of the modulus.
+
+    The number has none in common with the modulus itself.
+    """
+    rest = larger
+    while gcd(rest, modulus) != 1:
+        rest //= gcd(rest, modulus)
+    # It is to be 1 modulo all that the modulus does not know of the larger number.
+    return number + modulus * ((1 - number) * inverse_within(modulus, rest) % rest)
 
 
 def same_up_to_sign(number, other, modulus):

@@ -7,7 +7,7 @@ the same kept span and floor have the same frame.
 
 from leapfolk.arithmetic import is_all_zero, less_times, within
 from leapfolk.grounds import floor_rows, kept_rows
-from leapfolk.lattices import multiples
+from leapfolk.lattices import multiples, reduced_rows, settle
 
 
 def swapped(items, one, other):
@@ -94,6 +94,7 @@ class Frame:
         # A maker that is 1 counts nothing.
         needed = [number for number in range(size) if makers[number] != 1]
         self.kept = kept
+        self.floor = floor
         self.makers = [makers[number] for number in needed]
         self.columns = [
             [within(times, makers[number]) for times in columns[number][end:]] for number in needed
@@ -106,6 +107,15 @@ class Frame:
             within(sum([many * each for many, each in zip(times, column)]), maker)
             for maker, column in zip(self.makers, self.columns)
         ]
+
+    def units(self):
+        """Return a vector for each maker of which 1 is counted for this maker and 0 for the others."""
+        size = len(self.makers)
+        # Each vector stands behind what is counted of it, so that the rows carry the vectors that are looked for.
+        made = [self.counted(row) + row for row in self.kept]
+        for number, maker in enumerate(self.makers):
+            made.append([maker if place == number else 0 for place in range(size)] + [0] * len(self.kept[0]))
+        return [settle(self.floor, row[size:]) for row in reduced_rows(size, made)]
 
 
 def frame_of(yard, points):

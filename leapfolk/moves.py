@@ -18,10 +18,15 @@ def moved_on(ways, start, end, times):
     return tuple([onto_way(way, low + times * (high - low)) for way, low, high in zip(ways, start, end)])
 
 
+def plain_point(point):
+    """Return the point as a plain tuple of plain integers."""
+    # Integers and tuples of kinds derived from int and tuple are accepted, but never returned.
+    return tuple([int(number) for number in point])
+
+
 def plain_points(standing):
     """Return a list of the standing's points, as plain tuples of plain integers."""
-    # Integers and tuples of kinds derived from int and tuple are accepted, but never returned.
-    return [tuple([int(number) for number in point]) for point in standing]
+    return [plain_point(point) for point in standing]
 
 
 def unit_points(persons):

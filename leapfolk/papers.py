@@ -1,11 +1,11 @@
 """Papers that bar one standing from another: how they are judged, and how they are found."""
 
-from leapfolk.arithmetic import determinant, is_all_zero, same_up_to_sign, vector_between
+from leapfolk.arithmetic import determinant, is_all_zero, minors_divisor, same_up_to_sign, vector_between
 from leapfolk.frames import frame_of
 from leapfolk.grounds import colour_rows, floor_vectors, from_base, kept_rows, mover_vectors, movers_of, posts_of
 from leapfolk.kinds import is_tuple_of, is_whole, is_whole_in
 from leapfolk.lattices import settle
-from leapfolk.portions import apart, completed, part_of, reads_zero, table_of
+from leapfolk.portions import apart, completed, part_of, parts_of, reads_zero, table_of
 from leapfolk.readings import is_reading
 from leapfolk.turns import turn_of
 
@@ -70,6 +70,20 @@ def turn_bars(yard, one, other, paper):
     return first is not None and then is not None and not same_up_to_sign(first, then, count)
 
 
+def few_bars(yard, many, zeros, vectors, paper):
+    """Return whether a paper ("few", count, readings) bars with so many readings.
+
+    They are to be 0 of all zeros, and tell of the vectors more than fewer persons can have.
+    """
+    if len(paper) != 3 or not is_count(paper[1]) or not is_readings(yard, many, paper[2]):
+        return False
+    _, count, readings = paper
+    table = table_of(count, readings, vectors)
+    if table is None or not all([reads_zero(reading, zeros) for reading in readings]):
+        return False
+    return minors_divisor(table, len(vectors), count) == 1
+
+
 JUDGES = {"post": post_bars, "span": span_bars, "colour": colour_bars, "turn": turn_bars}
 
 
@@ -83,14 +97,17 @@ def paper_bars(yard, one, other, thing):
     return judge(yard, one, other, thing)
 
 
-def turn_readings(frame):
-    """Return the readings that tell what is counted for each maker, in parts of the first one."""
-    count = frame.makers[0]
-    found = []
-    for column in frame.columns:
-        values = [part_of(times, count) for times in column]
-        found.append(completed([(0, 1)] * len(frame.kept[0]), frame.kept, values))
-    return tuple(found)
+def readings_of_rows(rows, counted, count):
+    """Return readings that give of the rows what is counted of them, in parts of count: a tuple with one per column."""
+    zeros = [(0, 1)] * len(rows[0])
+    return tuple([
+        parts_of(completed(zeros, rows, [part_of(number, count) for number in column])) for column in zip(*counted)
+    ])
+
+
+def frame_readings(frame, first, count):
+    """Return the readings that tell what is counted for the makers from a first one on; count divides all of these."""
+    return readings_of_rows(frame.kept, [frame.counted(row)[first:] for row in frame.kept], count)
 
 
 def turn_paper(yard, one, other):
@@ -99,22 +116,54 @@ def turn_paper(yard, one, other):
     first = turn_of(frame, mover_vectors(yard, one))
     if first is None or first == turn_of(frame, mover_vectors(yard, other)):
         return None
-    return ("turn", frame.makers[0], turn_readings(frame))
+    return ("turn", frame.makers[0], frame_readings(frame, 0, frame.makers[0]))
 
 
-def paper_for(yard, one, other):
-    """Return a paper that bars the points one from the points other, or None if a row leads there."""
+def few_paper(frame, many):
+    """Return a few paper of readings that are 0 of the frame's floor if there are more makers than so many, or None."""
+    makers = frame.makers
+    first = len(makers) - many - 1
+    if first < 0:
+        return None
+    count = makers[first] if makers[first] != 0 else 2
+    return ("few", count, frame_readings(frame, first, count))
+
+
+def post_paper(yard, one, other):
+    """Return a post paper that bars the points one from the points other, or None."""
     for post in posts_of(yard):
         if one[post] != other[post]:
             return ("post", post)
+    return None
+
+
+def colour_paper(yard, one, other):
+    """Return a colour paper that bars the points one from the points other, or None."""
     rows = colour_rows(yard, one)
     for person in range(yard[1]):
         vector = vector_between(one[person], other[person])
         if not is_all_zero(settle(rows, vector)):
             return ("colour", person, apart(rows, vector))
-    # With equal colours the kept span of the other is contained in that of the one.
+    return None
+
+
+def span_paper(yard, one, other):
+    """Return a span paper that bars the points one from the points other, or None."""
     rows = kept_rows(yard, other)
     for vector in mover_vectors(yard, one):
         if not is_all_zero(settle(rows, vector)):
             return ("span", apart(rows, vector))
-    return turn_paper(yard, one, other)
+    return None
+
+
+def paper_for(yard, one, other):
+    """Return a paper that bars the points one from the points other, or None if a row leads there."""
+    found = post_paper(yard, one, other)
+    if found is None:
+        found = colour_paper(yard, one, other)
+    if found is None:
+        # With equal colours the kept span of the other is contained in that of the one.
+        found = span_paper(yard, one, other)
+    if found is None:
+        found = turn_paper(yard, one, other)
+    return found

@@ -5,11 +5,20 @@ from math import gcd, lcm
 from leapfolk.lattices import first_place, settle
 
 
-def part_of(top, bottom):
-    """Return the part of top over bottom that is at least 0 and below 1, as a fraction; bottom is at least 1."""
-    top = top % bottom
+def lowest(top, bottom):
+    """Return top over bottom as a fraction; bottom is at least 1."""
     common = gcd(top, bottom)
     return (top // common, bottom // common)
+
+
+def part_of(top, bottom):
+    """Return the part of top over bottom that is at least 0 and below 1, as a fraction; bottom is at least 1."""
+    return lowest(top % bottom, bottom)
+
+
+def parts_of(fractions):
+    """Return a reading that reads the same as these fractions, with all of its own at least 0 and below 1."""
+    return tuple([part_of(top, bottom) for top, bottom in fractions])
 
 
 def sum_over(reading, vector):
@@ -43,17 +52,28 @@ def table_of(count, readings, vectors):
     return table
 
 
-def completed(reading, rows, values):
-    """Return the reading after the fractions at the rows' first places are chosen, so that it reads the values.
+def products_of(slopes, vectors):
+    """Return the sum of products of each slope and vector, a list per slope, or None if one of them is no integer."""
+    table = []
+    for slope in slopes:
+        found = [sum_over(slope, vector) for vector in vectors]
+        if not all([top % bottom == 0 for top, bottom in found]):
+            return None
+        table.append([top // bottom for top, bottom in found])
+    return table
 
-    The rows are reduced rows, and in the reading that is given these fractions are 0. Values are fractions.
+
+def completed(fractions, rows, values):
+    """Return the fractions after those at the rows' first places are chosen, so that the sums of products are values.
+
+    The rows are reduced rows, and the fractions that are given are 0 at their first places. Values are fractions.
     """
-    found = list(reading)
+    found = list(fractions)
     # What stands to the right of a row's first place has been chosen before it.
     for row, (top, bottom) in list(zip(rows, values))[::-1]:
         place = first_place(row)
         above, below = sum_over(found, row)
-        found[place] = part_of(top * below - above * bottom, bottom * below * row[place])
+        found[place] = lowest(top * below - above * bottom, bottom * below * row[place])
     return tuple(found)
 
 
@@ -66,4 +86,4 @@ def apart(rows, vector):
     # Of a row that begins there the vector has only a part; otherwise one half of what it has there will do.
     found[place] = (1, sizes[0] if sizes else 2 * abs(rest[place]))
     before = [row for row in rows if first_place(row) < place]
-    return completed(found, before, [(0, 1)] * len(before))
+    return parts_of(completed(found, before, [(0, 1)] * len(before)))

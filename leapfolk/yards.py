@@ -82,9 +82,14 @@ def standing_wrong(yard, thing):
     return None
 
 
+def is_standing(yard, thing):
+    """Return whether thing is a standing of the yard."""
+    return standing_wrong(yard, thing) is None
+
+
 def need_standing(yard, standing):
     """Raise NoYard if yard is not a yard, then NoStanding if standing is not a standing of it."""
-    if standing_wrong(yard, standing) is not None:
+    if not is_standing(yard, standing):
         raise NoStanding("this is not a standing of the yard")
 
 

@@ -6,9 +6,13 @@ import inspect
 import unittest
 from collections import namedtuple
 
-from leapfolk import colours, errors, homes, makers as makers_file, readings, rows, spans, turns, verdicts, yards
+from leapfolk import (
+    cells, colours, deeds, errors, homes, makers as makers_file, readings, rows, spans, turns, verdicts, wishes, yards,
+)
+from leapfolk.cells import gathered
 from leapfolk.colours import colour_points, same_colour
-from leapfolk.errors import NoLeap, NoPerson
+from leapfolk.deeds import deed_of, row_for
+from leapfolk.errors import NoLeap, NoPerson, NoTable
 from leapfolk.homes import home
 from leapfolk.makers import makers
 from leapfolk.readings import reading_wrong, reads
@@ -16,6 +20,7 @@ from leapfolk.rows import back, done, is_steady, leaps_in, row_wrong
 from leapfolk.spans import floor, kept_span, lies_in, reduced, settled, span
 from leapfolk.turns import kept, turn_between
 from leapfolk.verdicts import shows, verdict
+from leapfolk.wishes import granted, grants, wishes_wrong
 from leapfolk.yards import leapt, standing_wrong, yard_wrong
 from tests.samples import BIG, JUNK, LINE, YARDS, Unchanged, generic, is_plain, refusal, refusal_class, walkers_over
 
@@ -36,6 +41,10 @@ INTERFACE = {
     turns: {"turn_between": ["yard", "one", "other"], "kept": ["yard", "standing"]},
     homes: {"home": ["yard", "standing"]},
     verdicts: {"verdict": ["yard", "one", "other"], "shows": ["yard", "one", "other", "told"]},
+    wishes: {"wishes_wrong": ["yard", "thing"], "granted": ["yard", "standing", "wishes"],
+             "grants": ["yard", "standing", "wishes", "told"]},
+    cells: {"gathered": ["yard", "standing", "corner", "steps"]},
+    deeds: {"deed_of": ["persons", "row"], "row_for": ["persons", "posts", "table"]},
 }
 
 # One ordinary question for each function, with the arguments in their order.
@@ -65,6 +74,17 @@ QUESTIONS = [
     (shows, [LINE, ((0,), (1,)), ((10,), (11,)), ("led", [(AROUND, 5)])]),
     (shows, [SEVEN, ((0,), (1,)), ((0,), (2,)), ("barred", ("turn", 7, (((1, 7),),)))]),
     (shows, [LINE, ((0,), (1,)), ((0,), (3,)), ("barred", ("span", ((1, 3),)))]),
+    (wishes_wrong, [WIDE, (None, (0, 0), (1, 5), None)]), (wishes_wrong, [WIDE, (None, (0, 0), (1, 6), None)]),
+    (granted, [WIDE, AT, (None,) * 4]), (granted, [WIDE, AT, (None, None, (1, 5), None)]),
+    (granted, [LINE, ((0,), (1,)), ((2,), None)]), (granted, [LINE, ((0,), (1,)), ((1,), None)]),
+    (granted, [SEVEN, ((0,), (1,)), ((0,), (2,))]), (granted, [((0, 0), 4, ()), ((0, 0),) * 3 + ((1, 0),), ((0, 0),) * 4]),
+    (granted, [((0, 5), 3, ()), ((0, 0), (0, 1), (1, 0)), ((0, 0), (0, 3), None)]),
+    (grants, [LINE, ((0,), (1,)), ((2,), None), ("led", [(AROUND, 1)], ((2,), (3,)))]),
+    (grants, [SEVEN, ((0,), (1,)), ((0,), (2,)), ("barred", ("turn", 7, (((1, 7),),), ()))]),
+    (grants, [LINE, ((0,), (1,)), ((0,), (3,)), ("barred", ("few", 3, (((1, 3),),)))]),
+    (gathered, [LINE, ((5,), (8,)), (2,), ((-3,),)]), (gathered, [((0, 0), 2, ()), ((1, 1), (1, 1)), (1, 1), ()]),
+    (deed_of, [2, [(AROUND, 5)]]), (deed_of, [3, []]),
+    (row_for, [2, (), ((-9, 10), (-10, 11))]), (row_for, [3, (0,), ((1, 0, 0), (0, -1, 2), (0, 0, 1))]),
 ]
 
 
@@ -132,6 +152,17 @@ class Examples(unittest.TestCase):
                       True)
         self.assertEqual(verdict(((5,), 2, ()), ((0,), (1,)), ((0,), (2,)))[0], 'barred')
         self.assertEqual(verdict(((5,), 3, ()), ((0,), (1,), (0,)), ((0,), (2,), (0,)))[0], 'led')
+
+    def test_wishes(self):
+        self.assertEqual(granted(((0,), 2, ()), ((0,), (1,)), ((2,), None))[0], 'led')
+        self.assertEqual(granted(((0,), 2, ()), ((0,), (1,)), ((1,), None))[0], 'barred')
+
+    def test_cells(self):
+        self.assertEqual(gathered(((0,), 2, ()), ((5,), (8,)), (2,), ((-3,),))[0], ((-1,), (2,)))
+
+    def test_deeds(self):
+        self.assertEqual(deed_of(2, [(((0, 1),), 1)]), ((-1, 2), (0, 1)))
+        self.assertIs(refusal_class(row_for, 2, (), ((2, 0), (0, 1))), NoTable)
 
 
 class Interface(unittest.TestCase):
@@ -249,6 +280,23 @@ class Results(unittest.TestCase):
         self.assertTrue(is_plain(settled([], Pair(Small.FIVE, Small.ONE))))
         self.assertTrue(is_plain(reads(LINE, one, (Small.FIVE,))))
         self.assertTrue(is_plain(turn_between((Pair(Six.THREE, Six.THREE)[:1], 2, ()), ((0,), (1,)), ((0,), (2,)))))
+
+    def test_derived_kinds_are_never_returned_by_wishes_cells_and_deeds(self):
+        yard = (Pair(Small.NONE, Six.SIX), Six.FOUR, Pair(Small.ONE, Six.THREE))
+        at = tuple(Pair(Small.ONE, Small(k)) for k in (1, 0, 5, 1))
+        self.assertTrue(is_plain(granted(yard, at, (None,) * 4)))
+        self.assertTrue(is_plain(granted(yard, at, (None, at[1], Pair(Small.ONE, Six.THREE), None))))
+        self.assertTrue(is_plain(granted(yard, at, (None, at[2], None, None))))
+        self.assertTrue(is_plain(granted(yard, at, (Pair(Small.FIVE, Small.ONE), at[1], None, None))))
+        line, two = ((Small.NONE, Small.NONE), Six.THREE, ()), Pair(Small.ONE, Small.NONE)
+        here = (two, Pair(Small.FIVE, Small.NONE), Pair(Small.ONE, Six.THREE))
+        self.assertTrue(is_plain(gathered(line, here, two, Pair(Pair(Six.FOUR, Small.NONE), Pair(Small.NONE, Six.THREE)))))
+        self.assertEqual(deed_of(Six.THREE, [(AROUND, Small.FIVE)]), deed_of(3, [(AROUND, 5)]))
+        self.assertTrue(is_plain(deed_of(Six.THREE, [(AROUND, Small.FIVE)])))
+        self.assertTrue(is_plain(deed_of(Six.THREE, [(((Small.NONE, Small.ONE),), Small.ONE)])))
+        table = ((Small.ONE, Small.NONE, Small.NONE), (Small.NONE, -1, 2), Pair(0, 0) + (Small.ONE,))
+        self.assertTrue(is_plain(row_for(Six.THREE, (Small.NONE,), table)))
+        self.assertEqual(row_for(Six.THREE, (Small.NONE,), table), row_for(3, (0,), ((1, 0, 0), (0, -1, 2), (0, 0, 1))))
 
     def test_later_changes_of_an_argument_change_no_result(self):
         row = [(AROUND, 5), (((0, 1),), 1)]
