@@ -55,8 +55,8 @@ def row_of_all(yard, points, frame, lines):
     return row
 
 
-def home_of(yard, points):
-    """Return the points of the home and a row that leads from the points to it."""
+def home_and_lines(yard, points):
+    """Return the points of the home, a row that leads from the points to it, and the lines brought all the way down."""
     ways, _, posts = yard
     frame = frame_of(yard, points)
     numbers = [frame.counted(vector) for vector in mover_vectors(yard, points)]
@@ -65,7 +65,13 @@ def home_of(yard, points):
     reached = points_after_row(ways, points, lines.runs)
     # What the lines stand for is the same for the whole class, and so are the points after this last part.
     last = row_over_posts(yard, reached) if posts else row_of_all(yard, reached, frame, lines)
-    return points_after_row(ways, reached, last), lines.runs + last
+    return points_after_row(ways, reached, last), lines.runs + last, lines
+
+
+def home_of(yard, points):
+    """Return the points of the home and a row that leads from the points to it."""
+    end, row, _ = home_and_lines(yard, points)
+    return end, row
 
 
 def home(yard, standing):

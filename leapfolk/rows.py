@@ -85,13 +85,23 @@ def undone(run):
     return (tuple([(int(i), int(j)) for i, j in leaps[::-1]]), int(times))
 
 
+def row_undone(row):
+    """Return the row that undoes a row."""
+    return [undone(run) for run in row[::-1]]
+
+
+def count_of_leaps(row):
+    """Return the number of leaps of a row."""
+    return sum([len(leaps) * times for leaps, times in row])
+
+
 def back(row):
     """Return the row that undoes a row of up to six persons, none of them posts."""
     need_runs(MOST_PERSONS, (), row)
-    return [undone(run) for run in row[::-1]]
+    return row_undone(row)
 
 
 def leaps_in(row):
     """Return the number of leaps of a row of up to six persons, none of them posts."""
     need_runs(MOST_PERSONS, (), row)
-    return sum([len(leaps) * times for leaps, times in row])
+    return count_of_leaps(row)

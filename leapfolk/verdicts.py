@@ -4,7 +4,7 @@ from leapfolk.homes import home_of
 from leapfolk.kinds import is_tuple_of
 from leapfolk.moves import plain_points, points_after_row
 from leapfolk.papers import paper_bars, paper_for
-from leapfolk.rows import runs_wrong, undone
+from leapfolk.rows import row_undone, runs_wrong
 from leapfolk.yards import need_standing
 
 
@@ -14,7 +14,7 @@ def row_between(yard, one, other):
         return []
     _, there = home_of(yard, one)
     _, back_again = home_of(yard, other)
-    return there + [undone(run) for run in back_again[::-1]]
+    return there + row_undone(back_again)
 
 
 def verdict(yard, one, other):

@@ -38,8 +38,11 @@ def asked_points(points, wishes):
 
 
 def granted_of(yard, points, wishes):
-    """Return ("led", row, end) or ("barred", paper) for wishes that the points do not grant."""
-    paper = misfit_paper(yard, points, asked_points(points, wishes))
+    """Return ("led", row, end) or ("barred", paper)."""
+    asked = asked_points(points, wishes)
+    if asked == points:
+        return ("led", [], tuple(points))
+    paper = misfit_paper(yard, points, asked)
     if paper is not None:
         return ("barred", paper)
     aim = Aim(yard, points, wishes)
@@ -55,10 +58,7 @@ def granted(yard, standing, wishes):
     """Return ("led", row, end), where end grants the wishes, or ("barred", paper)."""
     need_standing(yard, standing)
     need_wishes(yard, wishes)
-    points, wished = plain_points(standing), plain_wishes(wishes)
-    if asked_points(points, wished) == points:
-        return ("led", [], tuple(points))
-    return granted_of(yard, points, wished)
+    return granted_of(yard, plain_points(standing), plain_wishes(wishes))
 
 
 def leads_to_end(yard, points, told):

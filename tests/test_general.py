@@ -7,12 +7,17 @@ import unittest
 from collections import namedtuple
 
 from leapfolk import (
-    cells, colours, deeds, errors, homes, makers as makers_file, readings, rows, spans, turns, verdicts, wishes, yards,
+    agains, cells, classes, colours, crowds, deeds, errors, evens, homes, makers as makers_file, readings, rows, spans,
+    turns, verdicts, wishes, yards,
 )
+from leapfolk.agains import again
 from leapfolk.cells import gathered
+from leapfolk.classes import class_count, class_home, class_of
 from leapfolk.colours import colour_points, same_colour
+from leapfolk.crowds import greatest_crowd, meeting, meets
 from leapfolk.deeds import deed_of, row_for
-from leapfolk.errors import NoLeap, NoPerson, NoTable
+from leapfolk.errors import NoLeap, NoPerson, NoTable, TooMany
+from leapfolk.evens import led_so, shows_so
 from leapfolk.homes import home
 from leapfolk.makers import makers
 from leapfolk.readings import reading_wrong, reads
@@ -22,7 +27,9 @@ from leapfolk.turns import kept, turn_between
 from leapfolk.verdicts import shows, verdict
 from leapfolk.wishes import granted, grants, wishes_wrong
 from leapfolk.yards import leapt, standing_wrong, yard_wrong
-from tests.samples import BIG, JUNK, LINE, YARDS, Unchanged, generic, is_plain, refusal, refusal_class, walkers_over
+from tests.samples import (
+    BIG, JUNK, LINE, LINE_OF_THREE, YARDS, Unchanged, generic, is_plain, refusal, refusal_class, walkers_over,
+)
 
 AROUND = ((0, 1), (1, 0))
 WIDE = ((0, 6), 4, (1, 3))
@@ -45,7 +52,16 @@ INTERFACE = {
              "grants": ["yard", "standing", "wishes", "told"]},
     cells: {"gathered": ["yard", "standing", "corner", "steps"]},
     deeds: {"deed_of": ["persons", "row"], "row_for": ["persons", "posts", "table"]},
+    agains: {"again": ["yard", "standing", "row", "most"]},
+    evens: {"led_so": ["yard", "one", "other", "odd"], "shows_so": ["yard", "one", "other", "odd", "told"]},
+    classes: {"class_count": ["ways", "persons"], "class_of": ["ways", "standing"],
+              "class_home": ["ways", "persons", "number"]},
+    crowds: {"meeting": ["yard", "standing", "persons"], "meets": ["yard", "standing", "persons", "told"],
+             "greatest_crowd": ["yard", "standing"]},
 }
+
+# The one argument that is passed by name only, with its default.
+BY_NAME = {"most": 10000}
 
 # One ordinary question for each function, with the arguments in their order.
 QUESTIONS = [
@@ -85,6 +101,18 @@ QUESTIONS = [
     (gathered, [LINE, ((5,), (8,)), (2,), ((-3,),)]), (gathered, [((0, 0), 2, ()), ((1, 1), (1, 1)), (1, 1), ()]),
     (deed_of, [2, [(AROUND, 5)]]), (deed_of, [3, []]),
     (row_for, [2, (), ((-9, 10), (-10, 11))]), (row_for, [3, (0,), ((1, 0, 0), (0, -1, 2), (0, 0, 1))]),
+    (again, [SEVEN, ((0,), (1,)), [(AROUND, 1)]]), (again, [LINE, ((0,), (1,)), [(AROUND, 1)]]),
+    (again, [WIDE, AT, [(((0, 1),), 1)]]),
+    (led_so, [LINE, ((0,), (1,)), ((0,), (1,)), True]), (led_so, [LINE, ((0,), (1,)), ((0,), (1,)), False]),
+    (led_so, [WIDE, AT, AT, True]), (led_so, [SEVEN, ((0,), (1,)), ((0,), (2,)), False]),
+    (shows_so, [LINE, ((0,), (1,)), ((2,), (1,)), True, ("led", [(((0, 1),), 1)])]),
+    (shows_so, [LINE, ((0,), (1,)), ((0,), (1,)), True, ("barred", ("signs", 3, (((1, 3),),)))]),
+    (class_count, [(2, 3), 2]), (class_of, [(6,), ((1,), (4,))]), (class_home, [(6,), 3, 2]),
+    (meeting, [LINE_OF_THREE, ((0,), (1,), (2,)), (0, 2)]), (meeting, [LINE_OF_THREE, ((0,), (1,), (2,)), (0, 1)]),
+    (meeting, [SEVEN, ((0,), (1,)), (0, 1)]), (meeting, [SEVEN, ((4,), (4,)), (0, 1)]),
+    (meets, [LINE_OF_THREE, ((0,), (1,), (2,)), (0, 2), ("led", [(((0, 1),), 1)], ((2,), (1,), (2,)))]),
+    (meets, [SEVEN, ((0,), (1,)), (0, 1), ("barred", ("few", 7, (((1, 7),),)))]),
+    (greatest_crowd, [LINE_OF_THREE, ((0,), (1,), (2,))]),
 ]
 
 
@@ -164,6 +192,22 @@ class Examples(unittest.TestCase):
         self.assertEqual(deed_of(2, [(((0, 1),), 1)]), ((-1, 2), (0, 1)))
         self.assertIs(refusal_class(row_for, 2, (), ((2, 0), (0, 1))), NoTable)
 
+    def test_evens(self):
+        self.assertIs(shows_so(((0,), 2, ()), ((0,), (1,)), ((0,), (1,)), True,
+                               ('barred', ('signs', 3, (((1, 3),),)))), True)
+
+    def test_crowds(self):
+        self.assertEqual(greatest_crowd(((0,), 3, ()), ((0,), (1,), (2,))), 2)
+
+    def test_agains(self):
+        self.assertEqual(again(((0, 5), 2, ()), ((0, 0), (0, 1)), [(((0, 1), (1, 0)), 1)]), 5)
+        error = refusal(again, ((0, 5), 2, ()), ((0, 0), (0, 1)), [(((0, 1), (1, 0)), 1)], most=4)
+        self.assertIs(type(error), TooMany)
+        self.assertEqual(error.most, 4)
+
+    def test_classes(self):
+        self.assertEqual(class_count((6,), 2), 16)
+
 
 class Interface(unittest.TestCase):
 
@@ -176,8 +220,15 @@ class Interface(unittest.TestCase):
                     parameters = inspect.signature(function).parameters
                     self.assertEqual(list(parameters), wanted)
                     for parameter in parameters.values():
-                        self.assertIs(parameter.kind, inspect.Parameter.POSITIONAL_OR_KEYWORD)
-                        self.assertIs(parameter.default, inspect.Parameter.empty)
+                        if parameter.name in BY_NAME:
+                            self.assertIs(parameter.kind, inspect.Parameter.KEYWORD_ONLY)
+                        else:
+                            self.assertIs(parameter.kind, inspect.Parameter.POSITIONAL_OR_KEYWORD)
+                        self.assertEqual(parameter.default, BY_NAME.get(parameter.name, inspect.Parameter.empty))
+
+    def test_every_file_of_the_interface_is_looked_at(self):
+        self.assertEqual(len(INTERFACE), 16)
+        self.assertEqual(sum(len(functions) for functions in INTERFACE.values()), 39)
 
     def test_arguments_by_name(self):
         for function, arguments in QUESTIONS:
@@ -297,6 +348,29 @@ class Results(unittest.TestCase):
         table = ((Small.ONE, Small.NONE, Small.NONE), (Small.NONE, -1, 2), Pair(0, 0) + (Small.ONE,))
         self.assertTrue(is_plain(row_for(Six.THREE, (Small.NONE,), table)))
         self.assertEqual(row_for(Six.THREE, (Small.NONE,), table), row_for(3, (0,), ((1, 0, 0), (0, -1, 2), (0, 0, 1))))
+
+    def test_derived_kinds_are_never_returned_by_the_last_stages(self):
+        yard = (Pair(Small.NONE, Six.SIX), Six.FOUR, Pair(Small.ONE, Six.THREE))
+        at = tuple(Pair(Small.ONE, Small(k)) for k in (1, 0, 5, 1))
+        for odd in (True, False):
+            self.assertTrue(is_plain(led_so(yard, at, at, odd)))
+            self.assertTrue(is_plain(led_so(yard, at, home(yard, at)[0], odd)))
+            self.assertTrue(is_plain(led_so(yard, at, (at[1], at[1], at[2], at[3]), odd)))
+        self.assertTrue(is_plain(again(yard, at, [(((Small.NONE, Small.ONE),), Small.ONE)], most=Small.FIVE)))
+        rings = Pair(Six.THREE, Six.FOUR)
+        standing = (Pair(Small.NONE, Small.ONE), Pair(Small.ONE, Six.THREE))
+        self.assertTrue(is_plain(class_count(rings, Small.ONE + Small.ONE)))
+        self.assertEqual(class_of(rings, standing), class_of((3, 4), ((0, 1), (1, 3))))
+        self.assertTrue(is_plain(class_of(rings, standing)))
+        self.assertTrue(is_plain(class_home((Six.THREE,), Six.THREE, Small.ONE)))
+        free = (Pair(Small.NONE, Six.SIX), Six.FOUR, ())
+        self.assertTrue(is_plain(greatest_crowd(free, at)))
+        for group in [Pair(Small.NONE, Small.ONE), (Small.NONE, Six.THREE), (Small.ONE, 2, Six.THREE)]:
+            told = meeting(free, at, group)
+            self.assertTrue(is_plain(told))
+            self.assertIs(meets(free, at, group, told), True)
+            # Also where nothing is to be done.
+            self.assertTrue(is_plain(meeting(free, (at[0],) * 4, group)))
 
     def test_later_changes_of_an_argument_change_no_result(self):
         row = [(AROUND, 5), (((0, 1),), 1)]

@@ -282,6 +282,11 @@ class Granted(unittest.TestCase):
             (((0, 0), 4, (0, 1)), ((0, 0), (0, 9), (1, 0), (4, 1))),
             (((0, 0), 4, (1, 3)), ((1, 0), (0, 0), (4, 1), (0, 13))),
             (((0, 12), 3, (2,)), ((0, 1), (1, 0), (0, 0))),
+            # The span has fewer reduced rows than there are ways, or what is finite lies across the ways.
+            (((0, 0, 5), 3, ()), ((0, 0, 0), (0, 0, 1), (1, 2, 0))),
+            (((0, 0), 4, (0, 1)), ((0, 0), (5, 5), (1, 1), (1, 0))),
+            (((0, 0), 4, (0, 1)), ((0, 0), (10, 5), (2, 1), (1, 0))),
+            (((0, 0, 0), 5, (1, 4)), ((1, 2, 3), (0, 0, 0), (1, 1, 4), (1, 2, 4), (7, 14, 21))),
         ]:
             self.assertEqual(len(makers(yard, standing)), len(aim_by_hand(yard, standing, standing)[1]))
             for _ in range(30):
@@ -570,6 +575,8 @@ class Grants(unittest.TestCase):
         self.refuse_barred(yard, standing, wishes, ("turn", 5, (reading,), ((ZERO, ZERO),)))
         # The slope is not 0 of the wish.
         self.refuse_barred(yard, standing, ((0, 0), (1, 3), None), ("turn", 5, (reading,), (slope,)))
+        self.refuse_barred(yard, ((0, 0), (0, 1), (2, 0)), ((0, 0), (1, 3), None), ("turn", 5, (reading,), (((1, 2), ZERO),)))
+        self.accept(yard, ((0, 0), (0, 1), (2, 0)), ((0, 0), (0, 3), None), ("turn", 5, (reading,), (((1, 2), ZERO),)))
         # Count times the reading is no integer for a mover, though it is for the wish.
         self.refuse_barred(yard, standing, wishes, ("turn", 5, (((1, 3), (1, 5)),), (slope,)))
         for thing in [("turn", 5, (reading,)), ("turn", 5, (reading,), (slope,), ()), ["turn", 5, (reading,), (slope,)],
@@ -698,6 +705,28 @@ class Grants(unittest.TestCase):
                     self.refuse(yard, standing, wishes, ("led", end, row))
                     self.refuse(yard, standing, wishes, ("led", row))
 
+    def test_changed_numbers_are_judged_anew(self):
+        source = random.Random(4)
+        for ways in GROUNDS:
+            for posts in [(), (1,), (0, 2)]:
+                yard = (ways, 4, posts)
+                standing = generic(yard, source.random(), 4)
+                after = done(yard, standing, random_row(yard, source, 3, 3))
+                for wishes in some_wishes(yard, source, standing, after, 4):
+                    told = granted(yard, standing, wishes)
+                    for other in number_changes(told):
+                        if told[0] == "led":
+                            _, row, end = other
+                            right = row_wrong(yard, row) is None and done(yard, standing, row) == end
+                            right = right and grants_by_hand(wishes, end)
+                        else:
+                            paper = other[1]
+                            right = readings_in(ways, paper) and (paper[0] != "post" or paper[1] in posts)
+                            right = right and (paper[0] != "colour" or 0 <= paper[1] < 4)
+                            right = right and (paper[0] not in ("few", "turn") or paper[1] >= 2)
+                            right = right and bars_by_hand(yard, standing, wishes, paper)
+                        self.assertIs(grants(yard, standing, wishes, other), right, (yard, standing, wishes, other))
+
     def test_rows_to_ends_that_do_not_grant(self):
         around = ((0, 1), (1, 0))
         self.assertIs(grants(LINE, ((0,), (1,)), ((2,), None), ("led", [(around, 1)], ((2,), (3,)))), True)
@@ -730,6 +759,27 @@ class Grants(unittest.TestCase):
                             self.refuse_barred(yard, standing, wishes, paper)
 
 
+def number_changes(thing):
+    """Return what differs from thing in one number, which is one more or one less."""
+    if type(thing) is int:
+        return [thing + 1, thing - 1]
+    if type(thing) not in (tuple, list):
+        return []
+    return [thing[:k] + type(thing)([other]) + thing[k + 1:] for k, part in enumerate(thing) for other in number_changes(part)]
+
+
+def readings_in(ways, paper):
+    """Return whether all fractions of a paper are fractions, and those on rings fit, where it has as many as ways."""
+    def fits(thing):
+        if type(thing) is not tuple:
+            return True
+        if len(thing) == len(ways) and all(type(part) is tuple and len(part) == 2 and type(part[0]) is int for part in thing):
+            return all(bottom >= 1 and math.gcd(top, bottom) == 1 and top * way % bottom == 0
+                       for way, (top, bottom) in zip(ways, thing))
+        return all(fits(part) for part in thing)
+    return fits(paper)
+
+
 def changes_of(told):
     """Return what differs from a right answer in one part: a number, a part left out, a list, a truth, a word."""
     word, *rest = told
@@ -737,11 +787,8 @@ def changes_of(told):
     if word == "led":
         row, end = rest
         for n, (leaps, times) in enumerate(row[:3]):
-            for run in [(leaps, times + 1), (leaps, 0), (leaps, True), (list(leaps), times), [leaps, times], (leaps,),
-                        (leaps[:-1], times), (leaps, times, 1)]:
-                # One run more or less of leaps may lead to the end all the same, where a ring is small.
-                if run != (leaps, times + 1) and run != (leaps[:-1], times):
-                    found.append((word, row[:n] + [run] + row[n + 1:], end))
+            for run in [(leaps, 0), (leaps, True), (list(leaps), times), [leaps, times], (leaps,), (leaps, times, 1)]:
+                found.append((word, row[:n] + [run] + row[n + 1:], end))
         return found
     paper = rest[0]
     found += [(word, list(paper)), (word, paper[:-1]), (word, paper + (1,)), (word, ("x" + paper[0],) + paper[1:])]
