@@ -58,7 +58,7 @@ def odd_loop(yard, end, lines):
     # Without the pivots that it holds, the line is its own negative: it counts nothing, or 1 for the first maker.
     lines.turn(idle[0] if idle else lines.pivots[0])
     turned = lines.runs[before:]
-    # All that may have changed is twice a part of the floor.
+    # All that the mover may have been moved by lies in the floor.
     return turned + row_over_posts(yard, points_after_row(yard[0], end, turned))
 
 
